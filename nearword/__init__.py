@@ -1,0 +1,1 @@
+"""Nearword: words that lie near a word."""
