@@ -1,5 +1,7 @@
 """What a word is."""
 
+from nearword.errors import BadWord
+
 LETTERS = "abcdefghijklmnopqrstuvwxyz"
 MOST_LETTERS = 24
 
@@ -15,3 +17,9 @@ def is_word(thing):
     if not isinstance(thing, str) or len(thing) > MOST_LETTERS:
         return False
     return all(is_letter(sign) for sign in thing)
+
+
+def check_word(thing):
+    """Refuse with BadWord what is no word."""
+    if not is_word(thing):
+        raise BadWord("a word is a text of 0 to 24 letters, each from a to z")

@@ -5,6 +5,10 @@ import unittest
 from nearword import errors
 from nearword.changes import done, led
 from nearword.errors import BadChange, BadMost, BadWord, Full, NearError
+from nearword.near import near
+from nearword.tables import way
+from nearword.tree import MOST_WORDS, Tree
+from nearword.words import LETTERS
 
 
 class ErrorClassesTest(unittest.TestCase):
@@ -38,6 +42,26 @@ class CaughtTest(unittest.TestCase):
                     done("cat", ("cut", 3))
                 with self.assertRaises(base):
                     led("cat", [("cut", 0), None])
+
+    def test_no_word_is_caught_by_each_of_its_bases(self):
+        for base in (BadWord, NearError, ValueError):
+            for call in (Tree().put, Tree().begun, lambda word: way(word, ""), lambda word: near(Tree(), word, 1)):
+                with self.assertRaises(base):
+                    call("Cat")
+
+    def test_no_most_is_caught_by_each_of_its_bases(self):
+        for base in (BadMost, NearError, ValueError):
+            with self.assertRaises(base):
+                near(Tree(), "cat", 25)
+
+    def test_full_is_caught_by_each_of_its_bases(self):
+        tree = Tree()
+        for at in range(MOST_WORDS):
+            tree.put(LETTERS[at // 26] + LETTERS[at % 26])
+        self.assertEqual(tree.many(), MOST_WORDS)
+        for base in (Full, NearError, ValueError):
+            with self.assertRaises(base):
+                tree.put("z")
 
     def test_each_class_can_be_raised_and_caught(self):
         for kind in (NearError, BadWord, BadChange, BadMost, Full):

@@ -7,7 +7,7 @@ import re
 import unittest
 import warnings
 
-from nearword import changes, errors, words
+from nearword import changes, errors, near, tables, tree, words
 
 FOLDER = pathlib.Path(__file__).resolve().parent.parent / "nearword"
 FILES = sorted(FOLDER.rglob("*.py"))
@@ -35,14 +35,26 @@ class InterfaceTest(unittest.TestCase):
             errors: ("NearError", "BadWord", "BadChange", "BadMost", "Full"),
             words: ("is_word",),
             changes: ("done", "led"),
+            tables: ("table", "distance", "way"),
+            tree: ("Tree",),
+            near: ("near", "looked"),
         }
         for module, names in listed.items():
             for name in names:
                 self.assertEqual(getattr(module, name).__module__, module.__name__)
 
+    def test_methods_stand_in_the_class_itself(self):
+        for name in ("put", "take", "has", "words", "begun", "many", "nodes"):
+            self.assertTrue(inspect.isfunction(vars(tree.Tree).get(name)), name)
+
     def test_arguments(self):
         for function, names in (
             (words.is_word, ["thing"]), (changes.done, ["text", "change"]), (changes.led, ["text", "changes"]),
+            (tables.table, ["one", "other"]), (tables.distance, ["one", "other"]), (tables.way, ["one", "other"]),
+            (tree.Tree, []), (tree.Tree.put, ["self", "word"]), (tree.Tree.take, ["self", "word"]),
+            (tree.Tree.has, ["self", "word"]), (tree.Tree.words, ["self"]), (tree.Tree.begun, ["self", "begin"]),
+            (tree.Tree.many, ["self"]), (tree.Tree.nodes, ["self"]),
+            (near.near, ["tree", "word", "most"]), (near.looked, ["tree", "word", "most"]),
         ):
             self.assertEqual(list(inspect.signature(function).parameters), names)
 
@@ -50,6 +62,16 @@ class InterfaceTest(unittest.TestCase):
         self.assertIs(words.is_word(thing="cat"), True)
         self.assertEqual(changes.done(text="cat", change=("cut", 0)), "at")
         self.assertEqual(changes.led(text="cat", changes=[("cut", 0)]), "at")
+        self.assertEqual(tables.table(other="a", one=""), [[0, 1]])
+        self.assertEqual(tables.distance(one="cat", other="at"), 1)
+        self.assertEqual(tables.way(other="at", one="cat"), [("cut", 0)])
+        kept = tree.Tree()
+        self.assertIs(kept.put(word="cat"), True)
+        self.assertIs(kept.has(word="cat"), True)
+        self.assertEqual(kept.begun(begin="c"), ["cat"])
+        self.assertEqual(near.near(most=0, word="cat", tree=kept), [("cat", [])])
+        self.assertEqual(near.looked(most=0, word="cat", tree=kept), 4)
+        self.assertIs(kept.take(word="cat"), True)
 
 
 class FilesTest(unittest.TestCase):
